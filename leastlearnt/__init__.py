@@ -1,0 +1,1 @@
+"""Leastlearnt: learning the least machine behind questions."""
