@@ -2,7 +2,8 @@
 
 from itertools import combinations
 
-from leastlearnt.machines import Machine
+from leastlearnt.comparing import first_difference
+from leastlearnt.machines import Machine, answer
 from tests.oracles import follow, table_of
 
 
@@ -155,3 +156,29 @@ def fork(first, second):
 def writing(machine):
     """All that tells a machine, to see that it stays as it was."""
     return (machine.names, machine.answers, machine.states, machine.rules)
+
+
+# By these a learner meets what is seldom: an integer of a trial that is needed though the access input
+# did not need it, shown by several endings and placings, or mixed inputs in which an integer that is
+# not needed lies above one that is.
+CHOSEN = (9148, 33102, 37279, 9174, 11132, 29046, 28938, 31546, 4604, 21066, 22964, 24644, 23236, 24022, 23532)
+
+
+def chosen_machine(seed):
+    """A machine by chance with up to three registers in a state."""
+    dice = Dice(seed)
+    names, answers = ("a", "b")[:1 + seed % 2], ("no", "yes", "so")[:2 + seed // 2 % 2]
+    return random_machine(dice, names, answers, random_keeps(dice, 2 + dice.below(4), 1 + dice.below(3)))
+
+
+def some_difference(dice, machine, offer):
+    """An input on which an offer errs, perhaps a longer one than the first, or True if there is none."""
+    shown = first_difference(machine, offer)
+    if shown is None:
+        return True
+    if dice.below(2):
+        for _ in range(20):
+            more = [(dice.pick(machine.names), dice.below(3)) for _ in range(dice.below(5))] + shown
+            if answer(machine, more) != answer(offer, more):
+                return more
+    return shown

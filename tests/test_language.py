@@ -24,6 +24,16 @@ INTERFACE = {
                  "answer": ["machine", "messages"], "canonical": ["machine"]},
     "comparing": {"first_difference": ["machine", "other"], "needed_registers": ["machine", "state"],
                   "least": ["machine"]},
+    "memories": {"Memory": {"__init__": ["self", "names", "answers", "lies"], "hear": ["self", "messages", "answer"],
+                            "standing": ["self", "messages"], "possible": ["self", "messages"],
+                            "heard": ["self", "messages"], "change": ["self", "names"], "kept": ["self"],
+                            "wrong": ["self"]}},
+    "rows": {"row": ["memory", "messages", "endings"], "needed": ["memory", "messages", "endings"],
+             "alike_by": ["memory", "first", "second", "endings"]},
+    "learners": {"Learner": {"__init__": ["self", "memory"], "pending": ["self"], "reply": ["self", "value"],
+                             "access": ["self"], "endings": ["self"], "shown": ["self"]}},
+    "teachers": {"Teacher": {"__init__": ["self", "machine", "wrong", "silent"], "ask": ["self", "messages"],
+                             "judge": ["self", "machine"], "asked": ["self"], "teach": ["self", "learner", "most"]}},
 }
 
 
@@ -81,6 +91,35 @@ class Language(unittest.TestCase):
                     self.assertIn(node.func.attr, own | set(METHODS))
                 self.assertNotIsInstance(node, (ast.GeneratorExp, ast.Try, ast.Global, ast.Lambda, ast.Yield,
                                                 ast.Div, ast.Starred, ast.AsyncFunctionDef))
+
+    def test_names_of_classes_and_imports_mean_nothing_else(self):
+        for text in files().values():
+            tree = ast.parse(text)
+            taken = {node.name for node in tree.body if isinstance(node, ast.ClassDef)}
+            taken |= {one.name for node in tree.body if isinstance(node, ast.ImportFrom) for one in node.names}
+            for node in ast.walk(tree):
+                if isinstance(node, ast.Name) and isinstance(node.ctx, ast.Store):
+                    self.assertNotIn(node.id, taken)
+                if isinstance(node, ast.arg):
+                    self.assertNotIn(node.arg, taken)
+
+    def test_methods_and_attributes_have_different_names(self):
+        for text in files().values():
+            for made in [node for node in ast.parse(text).body if isinstance(node, ast.ClassDef)]:
+                methods = [node.name for node in made.body if isinstance(node, ast.FunctionDef)]
+                attributes = {node.attr for node in ast.walk(made)
+                              if isinstance(node, ast.Attribute) and isinstance(node.ctx, ast.Store)}
+                self.assertEqual(len(set(methods)), len(methods))
+                self.assertFalse(attributes & set(methods))
+
+    def test_no_files_import_each_other(self):
+        imports = {name[:-3]: {node.module.split(".")[1] for node in ast.parse(text).body
+                               if isinstance(node, ast.ImportFrom)} for name, text in files().items()}
+        while imports:
+            free = [name for name, needs in imports.items() if not needs & set(imports)]
+            self.assertTrue(free)
+            for name in free:
+                imports.pop(name)
 
     def test_interface(self):
         for name, told in INTERFACE.items():
